@@ -1,0 +1,1 @@
+"""A bass filled: three voices set above a given bass."""
