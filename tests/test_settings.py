@@ -208,7 +208,7 @@ class Costs(unittest.TestCase):
         self.assertEqual(self.cost((60, 60, 60), (28, 0), (0, 0, 0, 2, 0, 1, 4, 0, 1, 6, 0, 1), 7, 11), 7 + 33)
 
     def test_the_bass_counts_for_left(self):
-        # E is in the bass alone; F stands there as well.
+        # E is lacking above: the bass is an E, an F, an E flat.
         self.assertEqual(self.cost((60, 60, 60), (30, 0), (0, 0, 0, 2, 0, 1), 7, 11), 7)
         self.assertEqual(self.cost((60, 60, 60), (31, 0), (0, 0, 0, 2, 0, 1), 7, 11), 7 + 11)
         self.assertEqual(self.cost((60, 60, 60), (30, -1), (0, 0, 0, 2, 0, 1), 7, 11), 7 + 11)
