@@ -15,6 +15,12 @@ def is_note(step, alteration):
     return 0 <= step < STEPS and is_alteration(alteration)
 
 
+def are_notes(numbers):
+    if len(numbers) % 2 != 0:
+        return False
+    return all([is_note(numbers[k], numbers[k + 1]) for k in range(0, len(numbers), 2)])
+
+
 def sound_of(step, alteration):
     return OCTAVE_SEMITONES * (step // OCTAVE_STEPS) + SEMITONES[step % OCTAVE_STEPS] + alteration
 

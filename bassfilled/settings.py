@@ -49,6 +49,21 @@ def settings_of(rules, chord):
     return found
 
 
+def fits_voice(rules, chord, voice, note):
+    reach = rules.ranges[voice]
+    return name_of(note) in chord.names and reach[0] <= note[0] <= reach[1]
+
+
+def is_setting(rules, chord, setting):
+    four = [setting[0], setting[1], setting[2], chord.bass]
+    for voice in range(len(setting)):
+        if not fits_voice(rules, chord, voice, four[voice]):
+            return False
+        if not is_near_above(four[voice], four[voice + 1], rules.apart[voice]):
+            return False
+    return is_complete(chord, setting)
+
+
 def has_name_twice(setting):
     return len(set([name_of(note) for note in setting])) < len(setting)
 
@@ -58,3 +73,14 @@ def setting_cost(rules, chord, setting):
     if has_name_twice(setting):
         cost += rules.twice
     return cost
+
+
+def four_sounds(chord, setting):
+    return (setting[0][0], setting[1][0], setting[2][0], chord.bass[0])
+
+
+def numbers_of(setting):
+    numbers = []
+    for note in setting:
+        numbers.extend([note[1], note[2]])
+    return numbers

@@ -2,9 +2,9 @@
 
 import unittest
 
-from bassfilled.rules import Rules, first_rules
 from tests.calling import (
-    C_MAJOR, C_MAJOR_SETTINGS, FIRST_RULES, HUGE, chord, drop, last, rules, rules_but, setting, tell)
+    C_MAJOR, C_MAJOR_SETTINGS, FIRST_RULES, HUGE, chord, chord_of, count, counts, drop, judge, last, notes, rules,
+    rules_but, setting, tell)
 
 RANGE_STARTS = (0, 2, 4)
 SEMITONE_PLACES = (6, 7, 8, 9, 10, 11)
@@ -95,24 +95,6 @@ class Refused(unittest.TestCase):
         self.assertEqual(found, [[0], [-1], [0, 23], [23, 37, 0, 32, 0, 30, 0, 7]])
 
 
-class Kept(unittest.TestCase):
-    """Of how far voices go and what a move costs no setting tells, so the object is looked at itself."""
-
-    def test_first_rules(self):
-        kept = first_rules()
-        self.assertEqual(list(kept.ranges), [(60, 79), (53, 72), (48, 67)])
-        self.assertEqual(list(kept.apart), [12, 12, 24])
-        self.assertEqual(list(kept.leaps), [12, 7, 7])
-        self.assertEqual((kept.twice, kept.left, kept.move), (3, 4, 1))
-
-    def test_each_number_in_its_place(self):
-        kept = Rules(list(range(15)))
-        self.assertEqual(list(kept.ranges), [(0, 1), (2, 3), (4, 5)])
-        self.assertEqual(list(kept.apart), [6, 7, 8])
-        self.assertEqual(list(kept.leaps), [9, 10, 11])
-        self.assertEqual((kept.twice, kept.left, kept.move), (12, 13, 14))
-
-
 class Followed(unittest.TestCase):
     def count(self, *changes):
         """How many settings the plain chord has behind these rules."""
@@ -138,6 +120,30 @@ class Followed(unittest.TestCase):
 
     def test_how_far_they_go_means_nothing_for_settings(self):
         self.assertEqual(self.count(rules_but(n9=0, n10=0, n11=0, n14=20)), 23)
+
+    def test_first_rules_for_ways(self):
+        calls = [chord(*C_MAJOR), chord_of("f3", "f a c"), chord_of("g3", "g b d f"), chord(*C_MAJOR)]
+        told = last(*calls, counts())
+        self.assertGreater(told[0], 30)
+        self.assertEqual(last(rules(FIRST_RULES), *calls, counts()), told)
+
+    def test_how_far_each_may_go_holds(self):
+        # One voice goes by two semitones; the number of each voice is 1, then 2.
+        for voice, text in enumerate(("d5 g4 e4", "c5 a4 e4", "c5 g4 f#4")):
+            for changed in (0, 1, 2):
+                for leap in (1, 2):
+                    numbers = list(FIRST_RULES)
+                    numbers[9 + changed] = leap
+                    found = last(rules(numbers), chord(*C_MAJOR), chord(*C_MAJOR), judge(*notes("c5 g4 e4 " + text)))
+                    with self.subTest(voice=voice, changed=changed, leap=leap):
+                        told = [found[k:k + 4] for k in range(2, len(found), 4) if found[k + 1] == 2]
+                        self.assertEqual(told, [[1, 2, voice, 9]] if changed == voice and leap == 1 else [])
+
+    def test_the_price_of_a_move_holds(self):
+        calls = [chord(*C_MAJOR), chord_of("c4", "c d g e"), count(119), judge(*notes("c5 g4 e4 d5 g4 e4"))]
+        for price in (0, 1, 7, 20):
+            with self.subTest(price=price):
+                self.assertEqual(last(rules_but(n14=price), *calls), [0, 2 * price])
 
     def test_a_chord_that_is_there_follows_new_rules(self):
         found = tell(chord(*C_MAJOR), setting(0, 0), rules_but(n0=61), setting(0, 0), setting(0, 21), setting(0, 22),

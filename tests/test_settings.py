@@ -2,17 +2,8 @@
 
 import unittest
 
-from tests.calling import C_MAJOR, C_MAJOR_SETTINGS, FIRST_RULES, HUGE, all_settings, chord, last, rules, setting, tell
-
-# Every setting of the plain chord in order, worked out by hand: the three notes' steps, and the cost.
-C_MAJOR_BY_HAND = (
-    (35, 32, 30, 0),
-    (37, 32, 28, 0), (37, 32, 30, 3), (37, 32, 32, 3), (37, 35, 32, 0), (37, 37, 32, 3),
-    (39, 32, 30, 3), (39, 35, 30, 0), (39, 37, 30, 3), (39, 37, 32, 3), (39, 37, 35, 0), (39, 37, 37, 3),
-    (39, 39, 37, 3),
-    (42, 37, 32, 0), (42, 39, 37, 0),
-    (44, 37, 32, 3), (44, 39, 32, 3), (44, 39, 35, 0), (44, 39, 37, 3), (44, 39, 39, 3), (44, 42, 39, 0),
-    (46, 39, 37, 3), (46, 42, 37, 0))
+from tests.calling import (
+    C_MAJOR, C_MAJOR_BY_HAND, C_MAJOR_SETTINGS, FIRST_RULES, HUGE, all_settings, chord, last, rules, setting, tell)
 
 
 def with_ranges(*ranges):
